@@ -1,0 +1,1 @@
+"""Numbers in hues without a sum in one hue."""

@@ -1,0 +1,55 @@
+"""What is handed in: the questions and refusals that the modules share."""
+
+from sumhues.errors import NoHues, NoNumber, NoRow, NoRule
+
+MOST_HUES = 3
+MOST_NUMBERS = 30
+RULES = ("any", "unlike")
+
+
+def is_whole(thing):
+    # Python takes a truth for an int; the document does not.
+    return isinstance(thing, int) and not isinstance(thing, bool)
+
+
+def is_within(thing, low, high):
+    return is_whole(thing) and low <= thing <= high
+
+
+def is_hue(hues, thing):
+    return is_within(thing, 0, hues - 1)
+
+
+def is_half_row(hues, thing):
+    if not isinstance(thing, tuple) or len(thing) > MOST_NUMBERS:
+        return False
+    return all(part is None or is_hue(hues, part) for part in thing)
+
+
+def is_lot(n, thing):
+    if not isinstance(thing, tuple):
+        return False
+    # The kinds go first: only whole numbers can be compared below.
+    if not all(is_within(part, 1, n) for part in thing):
+        return False
+    return all(ahead < behind for ahead, behind in zip(thing, thing[1:]))
+
+
+def check_hues(hues):
+    if not is_within(hues, 1, MOST_HUES):
+        raise NoHues("a number of hues is a whole number from 1 to 3")
+
+
+def check_half(hues, half):
+    if not is_half_row(hues, half):
+        raise NoRow("a half row is a tuple of at most 30 things, each a hue or None")
+
+
+def check_rule(rule):
+    if rule not in RULES:
+        raise NoRule("a rule is one of the texts any and unlike")
+
+
+def check_number(number, low, high):
+    if not is_within(number, low, high):
+        raise NoNumber(f"only whole numbers from {low} to {high} are let")
