@@ -1,9 +1,11 @@
 """What is handed in: the questions and refusals that the modules share."""
 
-from sumhues.errors import NoHues, NoNumber, NoRow, NoRule
+from sumhues.errors import NoHues, NoNumber, NoRow, NoRule, TooMany
 
 MOST_HUES = 3
 MOST_NUMBERS = 30
+MOST_SMALL = 14
+MOST_SMALL_VAST = 7
 RULES = ("any", "unlike")
 
 
@@ -48,6 +50,23 @@ def check_half(hues, half):
 def check_rule(rule):
     if rule not in RULES:
         raise NoRule("a rule is one of the texts any and unlike")
+
+
+def check_ruled(hues, half, rule):
+    check_hues(hues)
+    check_half(hues, half)
+    check_rule(rule)
+
+
+def is_vast(hues, rule):
+    # Clean rows of three hues by this rule go far, and there are very many of them.
+    return hues == 3 and rule == "unlike"
+
+
+def check_small(hues, half, rule):
+    most = MOST_SMALL_VAST if is_vast(hues, rule) else MOST_SMALL
+    if len(half) > most:
+        raise TooMany(f"only half rows of at most {most} numbers are gone through")
 
 
 def check_number(number, low, high):

@@ -1,14 +1,12 @@
 """Clashes: sums whose numbers have all one hue."""
 
-from sumhues.checks import check_half, check_hues, check_number, check_rule
+from sumhues.checks import check_number, check_ruled
 from sumhues.rows import sums
 
 
 def clashes(hues, half, rule):
     """The rising list of all clashes of the half row by the rule."""
-    check_hues(hues)
-    check_half(hues, half)
-    check_rule(rule)
+    check_ruled(hues, half, rule)
     return [one for one in sums(len(half), rule) if is_in_one_hue(half, one)]
 
 

@@ -1,6 +1,7 @@
-"""What the tests share: odd things, half rows, and sums by brute force."""
+"""What the tests share: odd things, half rows, and what the points tell, by brute force."""
 
 import copy
+import functools
 import itertools
 import unittest
 
@@ -14,7 +15,7 @@ def deep(depth):
     return thing
 
 
-# No whole number, text, list or tuple here is let anywhere in stage 1 and 2.
+# No whole number, text, list or tuple here is let anywhere in the stages 1 to 5.
 ODD = [
     None, True, False, -1, 31, 32, 10 ** 40 - 1, -(10 ** 40 - 1),
     "", "Any", "any ", "0", "1", "2", "a\nb\t~",
@@ -65,6 +66,60 @@ def brute_clashes(half, rule):
         if None not in own and len(set(own)) == 1:
             found.append(numbers)
     return found
+
+
+def having(half, number, hue):
+    """The half row in which the number has this hue."""
+    own = list(half)
+    own[number - 1] = hue
+    return tuple(own)
+
+
+def bare(half):
+    return [x + 1 for x in range(len(half)) if half[x] is None]
+
+
+def brute_barred(hues, half, rule, number):
+    found = []
+    for hue in range(hues):
+        if any(number in clash for clash in brute_clashes(having(half, number, hue), rule)):
+            found.append(hue)
+    return tuple(found)
+
+
+def brute_is_forced(hues, half, rule, number, hue):
+    if number not in bare(half) or hue not in range(hues):
+        return False
+    return brute_barred(hues, half, rule, number) == tuple(other for other in range(hues) if other != hue)
+
+
+def brute_forced(hues, half, rule):
+    """All forced steps of the half row."""
+    steps = itertools.product(bare(half), range(hues))
+    return [step for step in steps if brute_is_forced(hues, half, rule, *step)]
+
+
+def brute_shut(hues, half, rule):
+    """All numbers without a hue for which all hues are barred."""
+    return [x for x in bare(half) if brute_barred(hues, half, rule, x) == tuple(range(hues))]
+
+
+@functools.cache
+def brute_clean_rows(hues, n, rule):
+    """All clean rows; not built from shorter ones as long as all rows can be gone through."""
+    if hues ** n <= 3000:
+        return [row for row in itertools.product(range(hues), repeat=n) if brute_clashes(row, rule) == []]
+    longer = [row + (hue,) for row in brute_clean_rows(hues, n - 1, rule) for hue in range(hues)]
+    return [row for row in longer if brute_clashes(row, rule) == []]
+
+
+def brute_fits(hues, half, rule):
+    rows = brute_clean_rows(hues, len(half), rule)
+    return [row for row in rows if all(own is None or own == hue for own, hue in zip(half, row))]
+
+
+def most_small(hues, rule):
+    return 7 if hues == 3 and rule == "unlike" else 14
 
 
 class Case(unittest.TestCase):

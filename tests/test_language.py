@@ -83,6 +83,16 @@ class Language(unittest.TestCase):
                 self.assertNotIn(name, dir(builtins), path)
                 self.assertRegex(name, r"\A([A-Za-z][A-Za-z0-9_]*|__[a-z]+__)\Z", path)
 
+    def test_no_local_name_is_that_of_a_class_or_an_import_of_its_file(self):
+        for path, tree in trees():
+            taken = {node.name for node in tree.body if isinstance(node, ast.ClassDef)}
+            for node in tree.body:
+                if isinstance(node, ast.ImportFrom):
+                    taken.update(alias.name for alias in node.names)
+            for node in ast.walk(tree):
+                if isinstance(node, ast.FunctionDef):
+                    self.assertEqual(taken.intersection(bound_names(node)), set(), (path, node.name))
+
     def test_no_fractions_and_no_per_cent_signs(self):
         for path, tree in trees():
             for node in ast.walk(tree):
