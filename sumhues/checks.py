@@ -1,6 +1,6 @@
 """What is handed in: the questions and refusals that the modules share."""
 
-from sumhues.errors import NoHues, NoNumber, NoRow, NoRule, TooMany
+from sumhues.errors import NoHue, NoHues, NoNumber, NoRow, NoRule, TooMany
 
 MOST_HUES = 3
 MOST_NUMBERS = 30
@@ -28,6 +28,10 @@ def is_half_row(hues, thing):
     return all(part is None or is_hue(hues, part) for part in thing)
 
 
+def is_full_row(hues, thing):
+    return is_half_row(hues, thing) and None not in thing
+
+
 def is_lot(n, thing):
     if not isinstance(thing, tuple):
         return False
@@ -47,6 +51,11 @@ def check_half(hues, half):
         raise NoRow("a half row is a tuple of at most 30 things, each a hue or None")
 
 
+def check_row(hues, row):
+    if not is_full_row(hues, row):
+        raise NoRow("a row is a tuple of at most 30 hues")
+
+
 def check_rule(rule):
     if rule not in RULES:
         raise NoRule("a rule is one of the texts any and unlike")
@@ -55,6 +64,12 @@ def check_rule(rule):
 def check_ruled(hues, half, rule):
     check_hues(hues)
     check_half(hues, half)
+    check_rule(rule)
+
+
+def check_ruled_row(hues, row, rule):
+    check_hues(hues)
+    check_row(hues, row)
     check_rule(rule)
 
 
@@ -72,3 +87,8 @@ def check_small(hues, half, rule):
 def check_number(number, low, high):
     if not is_within(number, low, high):
         raise NoNumber(f"only whole numbers from {low} to {high} are let")
+
+
+def check_hue(hues, hue):
+    if not is_hue(hues, hue):
+        raise NoHue(f"a hue is a whole number from 0 to {hues - 1}")

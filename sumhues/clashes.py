@@ -16,6 +16,11 @@ def is_in_one_hue(half, numbers):
     return hue is not None and half[b - 1] == hue and half[c - 1] == hue
 
 
+def count_clashes(some_sums, half):
+    """How many of the sums are clashes of the half row."""
+    return len([one for one in some_sums if is_in_one_hue(half, one)])
+
+
 def is_clean(hues, half, rule):
     """Whether the half row has no clash."""
     return len(clashes(hues, half, rule)) == 0

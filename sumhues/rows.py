@@ -6,6 +6,7 @@ from sumhues.checks import (
     check_hues,
     check_number,
     check_rule,
+    is_full_row,
     is_half_row,
     is_hue,
     is_lot,
@@ -22,7 +23,7 @@ def is_half(hues, thing):
 def is_row(hues, thing):
     """Whether the thing is a row of so many hues."""
     check_hues(hues)
-    return is_half_row(hues, thing) and None not in thing
+    return is_full_row(hues, thing)
 
 
 def lots(hues, half):

@@ -15,7 +15,7 @@ def deep(depth):
     return thing
 
 
-# No whole number, text, list or tuple here is let anywhere in the stages 1 to 5.
+# No whole number, text, list or tuple here is let anywhere.
 ODD = [
     None, True, False, -1, 31, 32, 10 ** 40 - 1, -(10 ** 40 - 1),
     "", "Any", "any ", "0", "1", "2", "a\nb\t~",
@@ -23,6 +23,15 @@ ODD = [
     (True,), (False,), ("0",), ((),), ([],), (-1,), (31,), (0, 0, 3), (None,) * 31, (0,) * 31, (0,) * 9000,
     {}, {0: 0}, {"any": None}, {1: [2]}, deep(60), [deep(59)],
 ]
+
+NO_HUES = [0, 4, (), (0,), "any"] + ODD
+NO_RULE = [0, 1, 2, (), ("any",), ["unlike"], "unlike ", "UNLIKE", "like", b"any"] + ODD
+# What is a half row of no number of hues.
+NO_HALF = [0, 1, 2, "any", (0, 1, 2, 3), (None, None, True), (0, False), (0, "None"), [0, None]] + ODD
+# What is a row of no number of hues.
+NO_ROW = [(None,), (0, None), (None, 0), (None,) * 30, (0,) * 29 + (None,)] + NO_HALF
+# What is no n from 0 to 30.
+NO_N = ["any", (), (0,), [30], "30"] + ODD
 
 
 def halves(hues, most):
@@ -46,6 +55,17 @@ def long_halves(hues):
 def some_halves(hues):
     yield from halves(hues, 4)
     yield from long_halves(hues)
+
+
+def rows(hues, most):
+    """All rows of so many hues with at most so many numbers."""
+    for n in range(most + 1):
+        yield from itertools.product(range(hues), repeat=n)
+
+
+def long_rows(hues):
+    """Rows of thirty numbers."""
+    return [half for half in long_halves(hues) if None not in half]
 
 
 def brute_sums(n, rule):

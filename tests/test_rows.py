@@ -5,14 +5,9 @@ import unittest
 from sumhues import rows
 from sumhues.errors import NoHue, NoHues, NoLot, NoNumber, NoRow, NoRule
 from sumhues.rows import first_form, half_of, is_half, is_row, lots, renamed, sums, sums_with
-from tests.helper import ODD, RULES, SUMS, Case, halves, long_halves, some_halves
-
-NO_HUES = [0, 4, (), (0,), "any"] + ODD
-NO_RULE = [0, 1, 2, (), ("any",), ["unlike"], "unlike ", "UNLIKE", "like", b"any"] + ODD
-# What is a half row of no number of hues.
-NO_HALF = [0, 1, 2, "any", (0, 1, 2, 3), (None, None, True), (0, False), (0, "None"), [0, None]] + ODD
-# What is no n from 0 to 30.
-NO_N = ["any", (), (0,), [30], "30"] + ODD
+from tests.helper import (
+    NO_HALF, NO_HUES, NO_N, NO_RULE, ODD, RULES, SUMS, Case, halves, long_halves, some_halves,
+)
 
 
 class Interface(unittest.TestCase):
