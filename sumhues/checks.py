@@ -1,4 +1,4 @@
-"""What is handed in: the questions and refusals that the modules share."""
+"""What the modules share: questions and refusals of what is handed in, and common divisors."""
 
 from sumhues.errors import NoHue, NoHues, NoNumber, NoRow, NoRule, TooMany
 
@@ -39,6 +39,13 @@ def is_lot(n, thing):
     if not all(is_within(part, 1, n) for part in thing):
         return False
     return all(ahead < behind for ahead, behind in zip(thing, thing[1:]))
+
+
+def common_divisor(one, other):
+    """The greatest whole number that divides both, which are from 0 on and not both 0."""
+    while other > 0:
+        one, other = other, one % other
+    return one
 
 
 def check_hues(hues):

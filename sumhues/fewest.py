@@ -1,8 +1,7 @@
 """How few clashes there can be where no row need be clean."""
 
-from sumhues.checks import MOST_NUMBERS, check_hues, check_number, check_rule
+from sumhues.checks import MOST_NUMBERS, check_hues, check_number, check_rule, common_divisor
 from sumhues.clashes import count_clashes
-from sumhues.divisors import common_divisor
 from sumhues.errors import TooMany
 from sumhues.rows import sums
 

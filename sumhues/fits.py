@@ -2,7 +2,7 @@
 
 from sumhues.checks import check_hues, check_rule, check_ruled, check_small, is_vast
 from sumhues.errors import TooMany
-from sumhues.rows import sums
+from sumhues.rows import pairs_to
 
 
 def all_fits(hues, half, rule):
@@ -24,8 +24,7 @@ def grown(rows, let, rule):
     """The clean rows that have one number more, with a hue of those let; rising where the rows are."""
     if len(rows) == 0:
         return []
-    number = len(rows[0]) + 1
-    pairs = [(a, b) for a, b, c in sums(number, rule) if c == number]
+    pairs = pairs_to(len(rows[0]) + 1, rule)
     return [row + (hue,) for row in rows for hue in let if stays_clean(row, hue, pairs)]
 
 

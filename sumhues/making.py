@@ -1,8 +1,15 @@
 """Rows made of others: laid together, read from the end on, led round and spread."""
 
-from sumhues.checks import MOST_HUES, MOST_NUMBERS, check_hues, check_number, check_row, check_ruled_row
+from sumhues.checks import (
+    MOST_HUES,
+    MOST_NUMBERS,
+    check_hues,
+    check_number,
+    check_row,
+    check_ruled_row,
+    common_divisor,
+)
 from sumhues.clashes import is_in_one_hue
-from sumhues.divisors import common_divisor
 from sumhues.errors import NoNumber, TooMany
 
 

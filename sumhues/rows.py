@@ -67,6 +67,11 @@ def sums(n, rule):
     return [(a, b, a + b) for a in range(1, n + 1) for b in range(a + apart, n - a + 1)]
 
 
+def pairs_to(number, rule):
+    """The rising list of the pairs (a, b) that make a sum with the number as their c."""
+    return [(a, b) for a, b, c in sums(number, rule) if c == number]
+
+
 def sums_with(n, rule, number):
     """The rising list of the sums within n in which the number stands."""
     found = sums(n, rule)
