@@ -20,6 +20,7 @@ NEVER = [
     "hues 2 2", "hues 2 any", "rule any unlike", "rule any any", "half a a", "half a b", "put 1 a a", "put 1 2 a",
     "clear 1 1", "clear 1 a", "back 1", "back back", "shown 1", "clash 1", "barred 1 1", "barred 1 a", "run 1",
     "many 1", "first 1", "far 1", "shown clash", "back shown",
+    "hues ", "rule ", "half ", "put ", "put  ", "put  a", "put 1 ", "clear ", "barred ",
     "hues  2", "rule  any", "half  a", "put  1 a", "put 1  a", "clear  1", "barred  1",
     " hues 2", " rule any", " half a", " put 1 a", " clear 1", " back", " shown", " clash", " barred 1", " run", " far",
     "hues 2 ", "rule any ", "half a ", "put 1 a ", "clear 1 ", "back ", "shown ", "clash ", "barred 1 ", "run ", "far ",
